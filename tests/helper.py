@@ -7,6 +7,8 @@ from withinany.steps import answers
 
 WITHIN = [2]
 ALIKE = [3]
+SHORTEST = [6]
+SWAP = [7]
 
 
 def one(code):
@@ -15,6 +17,14 @@ def one(code):
 
 def two(code):
     return [1, len(code)] + code
+
+
+def leads(letters):
+    return [4, len(letters)] + list(letters)
+
+
+def straight(letters):
+    return [5, len(letters)] + list(letters)
 
 
 def ask(*calls):
@@ -34,6 +44,18 @@ def ask_within(first, second):
 
 def ask_alike(first, second):
     return ask(one(first), two(second), ALIKE)[2]
+
+
+def ask_leads(second, letters):
+    return ask(two(second), leads(letters))[1]
+
+
+def ask_straight(first, second, letters):
+    return ask(one(first), two(second), straight(letters))[2]
+
+
+def ask_shortest(first):
+    return ask(one(first), SHORTEST)[1]
 
 
 def letter(number):
@@ -67,6 +89,8 @@ def tree_of(code):
 
 def read(code):
     kind, rest = code[0], code[1:]
+    if kind > 4 or kind == 1 and rest[0] not in (2, 3, 4, 5):
+        raise ValueError(code)
     if kind == 0:
         return ("stay",), rest
     if kind == 1:
@@ -79,8 +103,18 @@ def read(code):
     return ("order" if kind == 2 else "either", left, right), rest
 
 
+def is_code(code):
+    try:
+        return read(list(code))[1] == []
+    except (IndexError, ValueError):
+        return False
+
+
 def compose(left, right):
-    return {(x, z) for x, y in left for y2, z in right if y == y2}
+    onward = {}
+    for y, z in right:
+        onward.setdefault(y, []).append(z)
+    return {(x, z) for x, y in left for z in onward.get(y, ())}
 
 
 def relation(tree, nodes, steps):
@@ -135,6 +169,12 @@ def size_of(tree):
     return 1 + sum(size_of(part) for part in tree[1:] if isinstance(part, tuple))
 
 
+def letter_count(tree):
+    if tree[0] == "letter":
+        return 1
+    return sum(letter_count(part) for part in tree[1:])
+
+
 def letters_of(tree):
     if tree[0] == "letter":
         return {tree[1]}
@@ -149,6 +189,15 @@ def first_line_showing(one, two, longest):
             if leads_straight(first, letters) and not leads_along(second, letters):
                 return list(letters)
     return None
+
+
+def first_straight_line(code):
+    """The shortest line along which an expression leads straight, of as short ones the first."""
+    tree = tree_of(code)
+    for length in itertools.count():
+        for letters in itertools.product(sorted(letters_of(tree)), repeat=length):
+            if leads_straight(tree, letters):
+                return list(letters)
 
 
 def leads_within(one, two, nodes, edges):

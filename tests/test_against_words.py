@@ -1,10 +1,11 @@
-"""within and alike on many expressions, held against the document's words taken literally."""
+"""Each question on many expressions, held against the document's words taken literally."""
 
+import itertools
 import random
 import unittest
 
-from helper import ask_alike, ask_within, first_line_showing, leads_along, leads_straight, leads_within, letters_of
-from helper import random_code, tree_of
+from helper import ask, ask_alike, ask_shortest, ask_within, first_line_showing, first_straight_line, leads
+from helper import leads_along, leads_straight, leads_within, letters_of, one, random_code, straight, tree_of, two
 
 # So many letters of a line are tried out in full, by how many different letters the first has.
 LONGEST = {0: 0, 1: 13, 2: 7, 3: 5, 4: 4}
@@ -59,6 +60,33 @@ class AgainstTheWords(unittest.TestCase):
             self.assertEqual(ask_alike(first, second), [1 if both else 0], (first, second))
             told_1 += both
         self.assertGreater(told_1, 100)
+
+    def lines(self, chance, code):
+        """All short lines of a code's letters and their other directions, and some longer ones."""
+        letters = sorted({number ^ flip for number in letters_of(tree_of(code)) for flip in (0, 1)})
+        for length in range(4 if len(letters) == 2 else 2):
+            yield from itertools.product(letters, repeat=length)
+        for _ in range(5):
+            yield [chance.choice(letters) for _ in range(chance.randint(3, 7))]
+
+    def test_leads_and_straight(self):
+        to_and_fro = 0
+        for chance, first, second in self.pairs(4, 1800, 6):
+            for line in self.lines(chance, second):
+                along = leads_along(tree_of(second), line)
+                both = [leads_straight(tree_of(code), line) for code in (second, first)]
+                told = ask(one(first), two(second), leads(line), straight(line))
+                self.assertEqual(told, [[0], [0], [int(along)], [int(holds) for holds in both]], (first, second, line))
+                to_and_fro += along and not both[0]
+        self.assertGreater(to_and_fro, 30)
+
+    def test_shortest(self):
+        several = 0
+        for _, first, _ in self.pairs(5, 3000, 6):
+            line = first_straight_line(first)
+            self.assertEqual(ask_shortest(first), [len(line)] + line, first)
+            several += len(line) > 1
+        self.assertGreater(several, 300)
 
 
 if __name__ == "__main__":

@@ -3,8 +3,9 @@
 import random
 import unittest
 
-from helper import ALIKE, WITHIN, again, ask, ask_within, either, first_line_showing, letter, one, order, padded
-from helper import random_code, row, size_of, tree_of, two
+from helper import ALIKE, SHORTEST, SWAP, WITHIN, again, ask, ask_leads, ask_shortest, ask_straight, ask_within
+from helper import either, first_line_showing, first_straight_line, leads, leads_along, leads_straight, letter, one
+from helper import order, padded, random_code, row, size_of, straight, tree_of, two
 
 
 def nested_again(letters):
@@ -24,6 +25,103 @@ def widest_again(code):
         wide += ([4] if code[place] != 0 else []) + code[place:place + step]
         place += step
     return wide
+
+
+def random_line(chance, code, letters, length):
+    """A line of so many letters: the code's own over and over, or any, or one alone."""
+    own = [number for at, number in enumerate(code) if at > 0 and code[at - 1] == 1]
+    freely = [chance.choice(letters) for _ in range(length)]
+    return chance.choice((own * 20, own * 20, freely, [letters[0]] * length))[:length]
+
+
+def random_second(chance, letters):
+    """Three letters; often such that it leads along lines along which it doesn't lead straight."""
+    step = letters[0]
+    back = {2: 3, 3: 2, 4: 5, 5: 4}[step]
+    return chance.choice((
+        again(random_code(chance, 3, letters)),
+        again(random_code(chance, 3, letters)),
+        again(row(step, back, step)),
+        again(again(either(row(step, step), letter(back)))),
+        again(order(again(letter(step)), row(back, step))),
+    ))
+
+
+class LongestLines(unittest.TestCase):
+    def test_again_and_again_within_again_and_again(self):
+        second = padded(nested_again([2, 3, 4]), 30)
+        self.assertEqual(size_of(tree_of(second)), 30)
+        for line in ([2] * 20, [2, 3] * 10, [2, 3, 4, 4] * 5, [2, 3, 4, 2, 2] * 4):
+            self.assertEqual(ask(two(second), leads(line), straight(line)), [[0], [1], [1, 0]])
+        for line in ([2] * 19 + [4], [2] * 19 + [5], [5] + [2] * 19, [2] * 10 + [4] + [2] * 9):
+            self.assertEqual(ask(two(second), leads(line), straight(line)), [[0], [0], [0, 0]])
+
+    def test_to_and_fro_over_all_of_twenty(self):
+        wander = padded(again(again(either(letter(2), again(letter(3))))), 30)
+        for line in ([2, 3] * 10, [3, 3, 2, 3] * 5, [3] * 20):
+            self.assertEqual(ask(two(wander), leads(line), leads(line[:19] + [4])), [[0], [1], [0]])
+        # By twos, and back by ones: each line of 2 alone but that of one letter.
+        by_twos = padded(again(either(row(2, 2), letter(3))), 30)
+        for count in range(21):
+            told = ask(two(by_twos), leads([2] * count), straight([2] * count))
+            self.assertEqual(told, [[0], [0 if count == 1 else 1], [1 - count % 2, 1 if count == 0 else 0]])
+
+    def test_back_and_forth_on_the_last_edge_of_twenty(self):
+        second = order(again(letter(2)), row(3, 2))
+        for count in range(1, 21):
+            told = ask(two(padded(second, 30)), leads([2] * count), straight([2] * count))
+            self.assertEqual(told, [[0], [1], [0, 0]])
+        self.assertEqual(ask_leads(second, []), [0])
+        self.assertEqual(ask_leads(second, [2] * 19 + [3]), [0])
+
+    def test_leads_and_straight_against_the_words(self):
+        chance = random.Random(11)
+        told = {}
+        for _ in range(250):
+            letters = chance.choice(((2, 3), (2, 3), (4, 5), (2, 4), (2, 3, 4)))
+            first = padded(again(random_code(chance, chance.randint(4, 6), letters)), 30)
+            second = padded(random_second(chance, letters), 30)
+            line = random_line(chance, chance.choice((first, second)), letters, chance.choice((18, 19, 20, 20)))
+            along = leads_along(tree_of(second), line)
+            both = (leads_straight(tree_of(second), line), leads_straight(tree_of(first), line))
+            self.assertEqual(ask_leads(second, line), [int(along)], (second, line))
+            self.assertEqual(ask_straight(first, second, line), [int(both[0]), int(both[1])], (first, second, line))
+            told[(along,) + both] = told.get((along,) + both, 0) + 1
+        for key in ((0, 0, 0), (0, 0, 1), (1, 0, 0), (1, 0, 1), (1, 1, 0), (1, 1, 1)):
+            self.assertGreater(told.get(key, 0), 3, (key, told))
+
+    def test_forty_calls_about_the_longest(self):
+        second = padded(nested_again([2, 3, 4]), 30)
+        first = padded(nested_again([2, 3, 4, 5, 2, 3]), 30)
+        line, longer = [2, 3, 4, 4] * 5, [2, 3, 4, 5] * 5
+        calls = [leads(line), straight(line), leads(longer), straight(longer), SHORTEST, WITHIN]
+        told = [[1], [1, 1], [0], [0, 1], [0], [0, 4, 2, 3, 4, 5]]
+        self.assertEqual(ask(one(first), two(second), *calls * 6, SWAP, SHORTEST), [[0], [0]] + told * 6 + [[-5], [0]])
+
+
+class LargestShortest(unittest.TestCase):
+    def test_six_letters_and_size_30(self):
+        for numbers in ((5, 4, 3, 2, 5, 4), (2, 2, 2, 2, 2, 2), (3, 5, 3, 5, 3, 5)):
+            code = padded(row(*numbers), 29)
+            self.assertEqual(ask_shortest(code), [6] + list(numbers))
+            self.assertEqual(ask_shortest([4] + code), [0])
+        pairs = order(*[either(letter(high), letter(low)) for high, low in ((5, 4), (3, 2), (5, 2))])
+        self.assertEqual(ask_shortest(padded(pairs, 29)), [3, 4, 2, 2])
+
+    def test_parts_that_change_nothing_change_no_answer(self):
+        chance = random.Random(13)
+        several = 0
+        for _ in range(1500):
+            letters = chance.choice(((2, 3), (3, 5), (2, 3, 4), (2, 3, 4, 5)))
+            code = random_code(chance, 6, letters)
+            size = size_of(tree_of(code))
+            if size > 30:
+                continue
+            shown = first_straight_line(code)
+            self.assertEqual(ask_shortest(code), [len(shown)] + shown, code)
+            self.assertEqual(ask_shortest(padded(code, 30 - (30 - size) % 2)), [len(shown)] + shown, code)
+            several += len(shown) > 2
+        self.assertGreater(several, 60)
 
 
 class Largest(unittest.TestCase):

@@ -5,17 +5,14 @@ import random
 import unittest
 
 from helper import again, either, leads_along, letter, order, random_code, row, tree_of
+from withinany import views
 from withinany.codes import read_parts
 from withinany.machines import machine_of
-from withinany.views import any_number_of_times, view_leads_along, view_of_no_letters, view_one_letter_on
+from withinany.views import any_number_of_times
 
 
 def told_by_view(code, letters):
-    machine = machine_of(read_parts(code))
-    view = view_of_no_letters(machine)
-    for number in letters:
-        view = view_one_letter_on(machine, view, number)
-    return view_leads_along(machine, view)
+    return views.leads_along(machine_of(read_parts(code)), letters)
 
 
 class Views(unittest.TestCase):

@@ -1,4 +1,4 @@
-"""Reading a code: the parts that an expression has."""
+"""Reading what is handed in: a code, with the parts that an expression has; and a line's letters."""
 
 from withinany.refusals import NotAsTold
 from withinany.refusals import TooLarge
@@ -17,6 +17,7 @@ HIGHEST_LETTER = 5
 
 MOST_NUMBERS = 60
 MOST_PARTS = 30
+MOST_LETTERS_OF_LINE = 20
 
 
 def is_letter(number):
@@ -65,3 +66,13 @@ def read_allowed_parts(code, most_letters):
     if len(parts) > MOST_PARTS or len(letters_in(parts)) > most_letters:
         raise TooLarge()
     return parts
+
+
+def read_line(letters):
+    """The letters of a line, if they are letters and not too many."""
+    if len(letters) > MOST_LETTERS_OF_LINE:
+        raise NotAsTold()
+    for number in letters:
+        if not is_letter(number):
+            raise NotAsTold()
+    return letters

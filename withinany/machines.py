@@ -120,3 +120,15 @@ def machine_of(parts):
     followers[0] = whole.begins
     final = whole.ends | BEGINNING if whole.may_stay else whole.ends
     return Machine(len(letters), moves_of(letters, followers), final)
+
+
+def machine_that_leads_nowhere():
+    """No expression is like it: it goes no row at all, not even that of no letters."""
+    return Machine(0, moves_of([], [0]), 0)
+
+
+def leads_straight(machine, letters):
+    states = BEGINNING
+    for letter in letters:
+        states = reached_by(machine.moves[letter], states)
+    return (states & machine.final) != 0

@@ -9,5 +9,9 @@ class TooLarge(Exception):
     """An expression is larger than is allowed."""
 
 
+class NoLine(Exception):
+    """There is no line along which an expression leads straight."""
+
+
 class NoSuchCall(Exception):
     """The program has no call of this number; this isn't answered."""

@@ -1,8 +1,9 @@
-"""The search for the line that shows that one expression isn't within another."""
+"""The search for the line that shows that one expression isn't within another, and for an expression's shortest."""
 
 from withinany.codes import HIGHEST_LETTER
 from withinany.codes import LOWEST_LETTER
 from withinany.machines import BEGINNING
+from withinany.machines import machine_that_leads_nowhere
 from withinany.machines import reached_by
 from withinany.views import view_leads_along
 from withinany.views import view_of_no_letters
@@ -82,3 +83,9 @@ def line_that_shows_it(first, second):
 
 def is_within(first, second):
     return line_that_shows_it(first, second) is None
+
+
+def shortest_line(machine):
+    """The letters of the shortest line along which the machine leads straight; None if there's none."""
+    # What leads nowhere leads along no line, so that each line of the machine's would show it.
+    return line_that_shows_it(machine, machine_that_leads_nowhere())

@@ -2,26 +2,40 @@
 
 from withinany.codes import STAY
 from withinany.codes import read_allowed_parts
+from withinany.codes import read_line
+from withinany.machines import leads_straight
 from withinany.machines import machine_of
+from withinany.refusals import NoLine
 from withinany.refusals import NoSuchCall
 from withinany.refusals import NotAsTold
 from withinany.refusals import TooLarge
 from withinany.search import is_within
 from withinany.search import line_that_shows_it
+from withinany.search import shortest_line
+from withinany.views import leads_along
 
 ONE = 0
 TWO = 1
 WITHIN = 2
 ALIKE = 3
+LEADS = 4
+STRAIGHT = 5
+SHORTEST = 6
+SWAP = 7
 
-# one and two: what they are handed stands behind them as a row.
-CALLS_WITH_A_ROW = (0, 1)
+# one, two, leads and straight: what they are handed stands behind them as a row.
+CALLS_WITH_A_ROW = (0, 1, 4, 5)
 
 MOST_LETTERS_OF_FIRST = 6
 MOST_LETTERS_OF_SECOND = 3
 
 REFUSED_FORM = -1
+REFUSED_NO_LINE = -3
 REFUSED_SIZE = -5
+
+
+def yes_or_no(holds):
+    return 1 if holds else 0
 
 
 class Questions:
@@ -45,11 +59,32 @@ class Questions:
             return [1]
         return [0, len(line)] + line
 
-    def tell_alike(self):
+    def refuse_unless_first_could_be_second(self):
         if self.first.letter_count > MOST_LETTERS_OF_SECOND:
             raise TooLarge()
-        if is_within(self.first, self.second) and is_within(self.second, self.first):
-            return [1]
+
+    def tell_alike(self):
+        self.refuse_unless_first_could_be_second()
+        return [yes_or_no(is_within(self.first, self.second) and is_within(self.second, self.first))]
+
+    def tell_leads(self, letters):
+        return [yes_or_no(leads_along(self.second, read_line(letters)))]
+
+    def tell_straight(self, letters):
+        line = read_line(letters)
+        return [yes_or_no(leads_straight(self.second, line)), yes_or_no(leads_straight(self.first, line))]
+
+    def tell_shortest(self):
+        line = shortest_line(self.first)
+        if line is None:
+            raise NoLine()
+        return [len(line)] + line
+
+    def swap(self):
+        self.refuse_unless_first_could_be_second()
+        first = self.first
+        self.first = self.second
+        self.second = first
         return [0]
 
 
@@ -62,6 +97,14 @@ def answer(questions, number, row):
         return questions.tell_within()
     if number == ALIKE:
         return questions.tell_alike()
+    if number == LEADS:
+        return questions.tell_leads(row)
+    if number == STRAIGHT:
+        return questions.tell_straight(row)
+    if number == SHORTEST:
+        return questions.tell_shortest()
+    if number == SWAP:
+        return questions.swap()
     raise NoSuchCall()
 
 
@@ -70,6 +113,8 @@ def answer_or_refusal(questions, number, row):
         return answer(questions, number, row)
     except NotAsTold:
         return [REFUSED_FORM]
+    except NoLine:
+        return [REFUSED_NO_LINE]
     except TooLarge:
         return [REFUSED_SIZE]
 

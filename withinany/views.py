@@ -41,3 +41,10 @@ def view_one_letter_on(machine, view, letter):
 
 def view_leads_along(machine, view):
     return (view[1] & machine.final) != 0
+
+
+def leads_along(machine, letters):
+    view = view_of_no_letters(machine)
+    for letter in letters:
+        view = view_one_letter_on(machine, view, letter)
+    return view_leads_along(machine, view)
